@@ -109,7 +109,7 @@ func (x *diary) goesOn(t *testing.T) {
 	y.crash(t, nil, true)
 }
 
-// scripts are what is done, command by command: small ones, of whose pending writes each choice is tried; and those in which the log goes round.
+// scripts are what is done, command by command: small ones, in which nothing is dropped; and those in which the log goes round.
 func scripts() [][]api.Request {
 	great := func(n int) api.Request { return set("great"+strconv.Itoa(n), long(512)) }
 	big := func(key string) api.Request { return set(key, long(420)) }
@@ -132,10 +132,10 @@ func scripts() [][]api.Request {
 	}
 }
 
-// smallScripts is how many of the scripts are small ones.
+// smallScripts is how many of the scripts are small ones: what was persisted there must hit.
 const smallScripts = 5
 
-// P18.9, P1, P2, P3: a crash at each moment of each command of each script, of whose pending writes each choice lives on, or many: of each key its latest write that was answered is told, or nothing; what was deleted, overwritten or flushed is not. Then all goes on, behind another crash, too.
+// P18.9, P1, P2, P3: a crash at each moment of each command of each script, of whose pending writes each choice lives on, where they are at most eight, else many: of each key its latest write that was answered is told, or nothing; what was deleted, overwritten or flushed is not. Then all goes on, behind another crash, too.
 func TestCrash(t *testing.T) {
 	for i, script := range scripts() {
 		for _, pages := range []int{1, 3} {
@@ -149,11 +149,7 @@ func TestCrash(t *testing.T) {
 						x.do(t, script[i])
 					}
 					done = !x.d.Dead()
-					choices := keeps
-					if i >= smallScripts {
-						choices = some
-					}
-					for k, keep := range choices(len(x.d.Pending())) {
+					for k, keep := range keeps(len(x.d.Pending())) {
 						y := x.crash(t, keep, i < smallScripts)
 						if (k+n)%10 == 1 {
 							y.goesOn(t)
